@@ -1,0 +1,1 @@
+"""Pushdoors: houses of doors that want pushes."""
