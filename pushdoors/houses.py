@@ -90,3 +90,52 @@ def check_name(house, name):
 def with_door(doors, at, door):
     """The doors, with another one at this number."""
     return doors[:at] + (door,) + doors[at + 1:]
+
+
+def paths_of_doors(room, path):
+    """The paths of all doors in and behind the room at this path, ascending."""
+    paths = []
+    for further, inner in rooms_behind(room, path):
+        paths.append(further)
+        paths.extend(paths_of_doors(inner, further))
+    return paths
+
+
+def door_at(house, path):
+    """The door at the path of a door."""
+    return room_at(house, path[:-1])[1][path[-1]]
+
+
+def with_room_at(house, path, room):
+    """The house with another room at the path of a room."""
+    if len(path) == 0:
+        return room
+    hand, doors = house
+    at = path[0]
+    need, stands, inner = doors[at]
+    return hand, with_door(doors, at, (need, stands, with_room_at(inner, path[1:], room)))
+
+
+def with_door_at(house, path, door):
+    """The house with another door at the path of a door."""
+    hand, doors = room_at(house, path[:-1])
+    return with_room_at(house, path[:-1], (hand, with_door(doors, path[-1], door)))
+
+
+def is_wide(door):
+    """Whether a door stands open."""
+    need, stands, _ = door
+    return stands == need
+
+
+def least_need(door):
+    """The least need that the door can be given."""
+    # A shut door would open by itself, were its need not greater than its pushes.
+    return 1 if is_wide(door) else door[1] + 1
+
+
+def with_need(door, need):
+    """The door with another need; an open one stays open."""
+    _, stands, inner = door
+    stands_then = need if is_wide(door) else stands
+    return need, stands_then, inner

@@ -2,7 +2,7 @@
 
 import random
 
-from pushdoors import far, walking
+from pushdoors import far, fitting, keepers, notes, rounds, walking
 
 FAR = 10 ** 18
 TURNS = 10 ** 15
@@ -93,6 +93,29 @@ def plain_after(house, many):
     return frozen(room)
 
 
+def cleaned(house):
+    """The house with all doors shut and unpushed, and the hands told."""
+    if isinstance(house, str):
+        return house
+    return (house[0], tuple((need, 0, cleaned(inner)) for need, _, inner in house[1]))
+
+
+def thawed_at(room, path):
+    """The room at a path of a thawed house; None for none."""
+    for at in path:
+        if isinstance(room, str) or not 0 <= at < len(room[1]):
+            return None
+        room = room[1][at][2]
+    return room
+
+
+def thawed_door(room, path):
+    """The door at a path of a thawed house, a list [need, stands, room]; None for none."""
+    if len(path) == 0 or thawed_at(room, path) is None:
+        return None
+    return thawed_at(room, path[:-1])[1][path[-1]]
+
+
 def made_room(chance, doors, most_need):
     """A room with so many doors in it and behind them; a way out for none."""
     if doors == 0:
@@ -114,6 +137,8 @@ def made_houses(many, most_doors=12, most_need=5, seed=1):
     return [made_room(chance, chance.randint(0, most_doors), most_need) for _ in range(many)]
 
 
+BAD_HOUSE = (0, ((1, 0, (0, ((1, 0, (0, ((0, 0, "a"),))),))),))
+
 # Each function that is handed a house, called with what it takes besides.
 CALLS = {
     "fates": lambda house: walking.fates(house, 3),
@@ -123,6 +148,14 @@ CALLS = {
     "leaving": lambda house: far.leaving(house, 3),
     "named": lambda house: far.named(house, "a", 3),
     "pushed": lambda house: far.pushed(house, (0,), 3),
+    "round_of": lambda house: rounds.round_of(house),
+    "mean": lambda house: rounds.mean(house),
+    "parted": lambda house: rounds.parted(house, "a"),
+    "parted from": lambda house: rounds.parted("a", house),
+    "fitted": lambda house: fitting.fitted(house, 1, 2),
+    "Keeper": lambda house: keepers.Keeper(house),
+    "again": lambda house: keepers.again(house, [("walk",), ("send", 5)]),
+    "written": lambda house: notes.written(house),
 }
 
 # The same, with everything else that is handed in beyond its limits.
@@ -134,4 +167,7 @@ WRONG_CALLS = {
     "leaving": lambda house: far.leaving(house, 0),
     "named": lambda house: far.named(house, "nobody", 0),
     "pushed": lambda house: far.pushed(house, (), 0),
+    "parted": lambda house: rounds.parted(house, BAD_HOUSE),
+    "fitted": lambda house: fitting.fitted(house, 0, -1),
+    "again": lambda house: keepers.again(house, [("send", -1), ("stay",), ()]),
 }

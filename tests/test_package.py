@@ -5,7 +5,7 @@ import inspect
 import pathlib
 import unittest
 
-from pushdoors import errors, far, walking
+from pushdoors import errors, far, fitting, keepers, notes, rounds, walking
 from tests.support import CALLS, HOUSES, NESTED, WRONG_CALLS
 
 FOLDER = pathlib.Path(walking.__file__).parent
@@ -13,6 +13,10 @@ INTERFACE = {
     errors: {"DoorError", "BadHouse", "BadCount", "NoName", "NoDoor", "BadDeed", "BadText"},
     walking: {"fates"},
     far: {"fate", "leaving", "named", "after", "left", "pushed"},
+    rounds: {"round_of", "mean", "parted"},
+    fitting: {"fitted"},
+    keepers: {"Keeper", "again"},
+    notes: {"written", "read"},
 }
 PARAMETERS = {
     walking.fates: ["house", "many"],
@@ -22,7 +26,27 @@ PARAMETERS = {
     far.after: ["house", "many"],
     far.left: ["house", "many"],
     far.pushed: ["house", "path", "number"],
+    rounds.round_of: ["house"],
+    rounds.mean: ["house"],
+    rounds.parted: ["one", "other"],
+    fitting.fitted: ["house", "number", "walker"],
+    keepers.Keeper: ["house"],
+    keepers.again: ["house", "deeds"],
+    notes.written: ["house"],
+    notes.read: ["text"],
 }
+METHODS = {
+    "walk": ["self"],
+    "send": ["self", "many"],
+    "renew": ["self", "path", "need"],
+    "turn": ["self", "path", "hand"],
+    "shut": ["self", "path"],
+    "unlatch": ["self", "path"],
+    "house": ["self"],
+    "counts": ["self"],
+    "deeds": ["self"],
+}
+LIBRARY = {"math": {"gcd", "lcm"}}
 
 
 class Interface(unittest.TestCase):
@@ -36,9 +60,14 @@ class Interface(unittest.TestCase):
         for function, names in PARAMETERS.items():
             self.assertEqual(list(inspect.signature(function).parameters), names)
 
+    def test_the_keeper_has_its_methods_itself(self):
+        for word, names in METHODS.items():
+            self.assertEqual(list(inspect.signature(vars(keepers.Keeper)[word]).parameters), names)
+
     def test_the_kinds_of_what_is_told(self):
         kinds = {"fates": list, "fate": tuple, "after": tuple, "left": int, "leaving": tuple, "named": tuple,
-                 "pushed": int}
+                 "pushed": int, "round_of": tuple, "mean": tuple, "parted": int, "parted from": int, "fitted": tuple,
+                 "Keeper": keepers.Keeper, "again": keepers.Keeper, "written": str}
         house = (0, ((1, 0, "a"),))
         for word, call in CALLS.items():
             self.assertIs(type(call(house)), kinds[word], word)
@@ -84,12 +113,14 @@ class Language(unittest.TestCase):
                 if isinstance(node, ast.FunctionDef):
                     self.assertLessEqual(node.end_lineno - node.lineno + 1, 40, (name, node.name))
 
-    def test_imports_come_from_the_package(self):
+    def test_imports_come_from_the_package_and_few_from_the_library(self):
         for name, text in self.sources():
             for node in ast.walk(ast.parse(text)):
                 self.assertNotIsInstance(node, ast.Import, name)
                 if isinstance(node, ast.ImportFrom):
-                    self.assertTrue(node.module.startswith("pushdoors."), (name, node.lineno))
+                    names = {alias.name for alias in node.names}
+                    plain = node.module.startswith("pushdoors.") or names <= LIBRARY.get(node.module, set())
+                    self.assertTrue(plain, (name, node.lineno))
 
 
 if __name__ == "__main__":
